@@ -4,14 +4,15 @@ import (
 	"slices"
 
 	"barrage/api"
+	"barrage/check"
 	"barrage/tide"
 )
 
 // Check returns the part, the index in it and the error of a task.
 func Check(t api.SgTask) (part, at int, e api.Errno) {
 	parts := []func(api.SgTask) (int, api.Errno){checkTide, checkGauges, checkNumbers, checkCentres, checkForecasts}
-	for i, check := range parts {
-		if at, e := check(t); e != api.OK {
+	for i, look := range parts {
+		if at, e := look(t); e != api.OK {
 			return i + 1, at, e
 		}
 	}
@@ -19,7 +20,7 @@ func Check(t api.SgTask) (part, at int, e api.Errno) {
 }
 
 func checkTide(t api.SgTask) (at int, e api.Errno) {
-	if !in(t.Ticks, 1, api.MaxSgTicks) {
+	if !check.In(t.Ticks, 1, api.MaxSgTicks) {
 		return 0, api.ErrRange
 	}
 	_, e = tide.Levels(t.Table, t.From, t.Ticks)
@@ -38,7 +39,7 @@ func checkGauges(t api.SgTask) (at int, e api.Errno) {
 			return i, api.ErrTwice
 		}
 	}
-	if !in(t.Wrong, 0, max(len(t.Gauges)-1, 0)) {
+	if !check.In(t.Wrong, 0, max(len(t.Gauges)-1, 0)) {
 		return 0, api.ErrRange
 	}
 	return 0, api.OK
@@ -48,7 +49,7 @@ func checkNumbers(t api.SgTask) (at int, e api.Errno) {
 	if len(t.Centres) > api.MaxSgCentres || len(t.Forecasts) > api.MaxSgForecasts {
 		return 0, api.ErrLong
 	}
-	if !in(t.Least, -api.MaxSgSurge, 0) || !in(t.Most, 0, api.MaxSgSurge) || !in(t.Rate, 1, api.MaxTdRate) || !in(t.Quorum, 0, len(t.Centres)) {
+	if !check.In(t.Least, -api.MaxSgSurge, 0) || !check.In(t.Most, 0, api.MaxSgSurge) || !check.In(t.Rate, 1, api.MaxTdRate) || !check.In(t.Quorum, 0, len(t.Centres)) {
 		return 0, api.ErrRange
 	}
 	return 0, api.OK
@@ -70,7 +71,7 @@ func centreError(c api.SgCentre, before []api.SgCentre) api.Errno {
 	if slices.ContainsFunc(before, func(o api.SgCentre) bool { return o.Name == c.Name }) {
 		return api.ErrTwice
 	}
-	if !in(c.Late, 0, api.MaxSgLate) || !in(c.Base, 0, api.MaxSgError) || !in(c.Growth, 0, api.MaxSgGrowth) {
+	if !check.In(c.Late, 0, api.MaxSgLate) || !check.In(c.Base, 0, api.MaxSgError) || !check.In(c.Growth, 0, api.MaxSgGrowth) {
 		return api.ErrRange
 	}
 	return api.OK
@@ -78,10 +79,10 @@ func centreError(c api.SgCentre, before []api.SgCentre) api.Errno {
 
 func checkForecasts(t api.SgTask) (at int, e api.Errno) {
 	for i, f := range t.Forecasts {
-		if !in(f.Centre, 0, len(t.Centres)-1) {
+		if !check.In(f.Centre, 0, len(t.Centres)-1) {
 			return i, api.ErrNone
 		}
-		if !isTick(f.Issued) || !isTick(f.From) {
+		if !check.IsTick(f.Issued) || !check.IsTick(f.From) {
 			return i, api.ErrRange
 		}
 		if e := membersError(f.Members); e != api.OK {
@@ -95,13 +96,13 @@ func checkForecasts(t api.SgTask) (at int, e api.Errno) {
 }
 
 func membersError(l [][]int) api.Errno {
-	isLong := func(m []int) bool { return !in(len(m), 1, api.MaxSgValues) }
+	isLong := func(m []int) bool { return !check.In(len(m), 1, api.MaxSgValues) }
 	isUneven := func(m []int) bool { return len(m) != len(l[0]) }
 	isWild := func(m []int) bool {
-		return slices.ContainsFunc(m, func(v int) bool { return !in(v, -api.MaxSgSurge, api.MaxSgSurge) })
+		return slices.ContainsFunc(m, func(v int) bool { return !check.In(v, -api.MaxSgSurge, api.MaxSgSurge) })
 	}
 	switch {
-	case !in(len(l), 1, api.MaxSgMembers) || slices.ContainsFunc(l, isLong):
+	case !check.In(len(l), 1, api.MaxSgMembers) || slices.ContainsFunc(l, isLong):
 		return api.ErrLong
 	case slices.ContainsFunc(l, isUneven):
 		return api.ErrArg
@@ -116,14 +117,8 @@ func checkAt(t api.SgTask, tick int) api.Errno {
 	if _, _, e := Check(t); e != api.OK {
 		return e
 	}
-	if !isTick(tick) {
+	if !check.IsTick(tick) {
 		return api.ErrRange
 	}
 	return api.OK
 }
-
-func in(x, lo, hi int) bool { return lo <= x && x <= hi }
-
-func isLevel(x int) bool { return in(x, api.MinLevel, api.MaxLevel) }
-
-func isTick(x int) bool { return in(x, 0, api.MaxTick) }

@@ -2,6 +2,7 @@ package surge
 
 import (
 	"barrage/api"
+	"barrage/check"
 	"barrage/tide"
 )
 
@@ -35,7 +36,7 @@ func Error(t api.SgTask, forecast, tick int) (int, api.Errno) {
 	if e := checkAt(t, tick); e != api.OK {
 		return 0, e
 	}
-	if !in(forecast, 0, len(t.Forecasts)-1) {
+	if !check.In(forecast, 0, len(t.Forecasts)-1) {
 		return 0, api.ErrNone
 	}
 	return errorOf(t, t.Forecasts[forecast], tick), api.OK
@@ -52,7 +53,7 @@ func Tube(t api.SgTask, forecast, member int) ([]api.Span, api.Errno) {
 	if _, _, e := Check(t); e != api.OK {
 		return nil, e
 	}
-	if !in(forecast, 0, len(t.Forecasts)-1) || !in(member, 0, len(t.Forecasts[forecast].Members)-1) {
+	if !check.In(forecast, 0, len(t.Forecasts)-1) || !check.In(member, 0, len(t.Forecasts[forecast].Members)-1) {
 		return nil, api.ErrNone
 	}
 	return tube(t, tideOf(t), t.Forecasts[forecast], member), api.OK
@@ -70,7 +71,7 @@ func tube(t api.SgTask, tides spans, f api.SgForecast, member int) spans {
 	s := make(spans, len(tides))
 	for i, x := range tides {
 		s[i] = api.Span{Lo: api.MinLevel, Hi: api.MaxLevel}
-		if at := t.From + i - f.From; in(at, 0, len(values)-1) {
+		if at := t.From + i - f.From; check.In(at, 0, len(values)-1) {
 			wrong := errorOf(t, f, t.From+i)
 			s[i] = api.Span{Lo: x.Lo + values[at] - wrong, Hi: x.Hi + values[at] + wrong}
 		}

@@ -4,6 +4,7 @@ import (
 	"slices"
 
 	"barrage/api"
+	"barrage/check"
 )
 
 // spans are spans of levels, one for each tick of a task; those whose Lo is above their Hi have no levels.
@@ -52,7 +53,7 @@ func (s spans) follow(at, neighbour, rate int) {
 // hold reports whether each value is in its span.
 func (s spans) hold(values []int) bool {
 	for i, v := range values {
-		if !in(v, s[i].Lo, s[i].Hi) {
+		if !check.In(v, s[i].Lo, s[i].Hi) {
 			return false
 		}
 	}

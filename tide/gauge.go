@@ -1,13 +1,16 @@
 package tide
 
-import "barrage/api"
+import (
+	"barrage/api"
+	"barrage/check"
+)
 
 // maxValue is the greatest value of a reading, and the least one below 0.
 const maxValue = 30000
 
 // CheckGauge returns the part, the index in it and the error of a gauge.
 func CheckGauge(g api.TdGauge) (part, at int, e api.Errno) {
-	return first(
+	return check.First(
 		func() (int, api.Errno) { return 0, headError(g) },
 		func() (int, api.Errno) { return checkDatums(g.Datums) },
 		func() (int, api.Errno) { return checkReadings(g.Readings) },
@@ -18,17 +21,17 @@ func headError(g api.TdGauge) api.Errno {
 	if !Name(g.Name) {
 		return api.ErrForm
 	}
-	if !in(g.Error, 0, api.MaxTdError) || !in(g.Rate, 0, api.MaxTdRate) {
+	if !check.In(g.Error, 0, api.MaxTdError) || !check.In(g.Rate, 0, api.MaxTdRate) {
 		return api.ErrRange
 	}
 	return api.OK
 }
 
 func checkDatums(l []api.TdDatum) (at int, e api.Errno) {
-	_, at, e = first(
-		must(in(len(l), 1, api.MaxTdDatums), 0, api.ErrLong),
-		each(len(l), func(i int) api.Errno {
-			follows := i == 0 && l[0].From == 0 || i > 0 && isTick(l[i].From) && l[i].From > l[i-1].From
+	_, at, e = check.First(
+		check.Must(check.In(len(l), 1, api.MaxTdDatums), 0, api.ErrLong),
+		check.Each(len(l), func(i int) api.Errno {
+			follows := i == 0 && l[0].From == 0 || i > 0 && check.IsTick(l[i].From) && l[i].From > l[i-1].From
 			if !follows || !(span{l[i].Shift}).inside(-api.MaxTdError, api.MaxTdError) {
 				return api.ErrRange
 			}
@@ -39,11 +42,11 @@ func checkDatums(l []api.TdDatum) (at int, e api.Errno) {
 }
 
 func checkReadings(l []api.TdReading) (at int, e api.Errno) {
-	_, at, e = first(
-		must(len(l) <= api.MaxTdReadings, 0, api.ErrLong),
-		each(len(l), func(i int) api.Errno {
+	_, at, e = check.First(
+		check.Must(len(l) <= api.MaxTdReadings, 0, api.ErrLong),
+		check.Each(len(l), func(i int) api.Errno {
 			follows := i == 0 || l[i].Tick > l[i-1].Tick
-			if !isTick(l[i].Tick) || !follows || !in(l[i].Value, -maxValue, maxValue) {
+			if !check.IsTick(l[i].Tick) || !follows || !check.In(l[i].Value, -maxValue, maxValue) {
 				return api.ErrRange
 			}
 			return api.OK
@@ -57,7 +60,7 @@ func Says(g api.TdGauge, tick, now int) (api.Span, api.Errno) {
 	if _, _, e := CheckGauge(g); e != api.OK {
 		return api.Span{}, e
 	}
-	if !isTick(tick) || !isTick(now) {
+	if !check.IsTick(tick) || !check.IsTick(now) {
 		return api.Span{}, api.ErrRange
 	}
 	s, e := says(g, tick, now)
@@ -105,11 +108,11 @@ func Fit(g api.TdGauge, datum, from int, levels []api.Span) (api.Span, api.Errno
 	if _, _, e := CheckGauge(g); e != api.OK {
 		return api.Span{}, e
 	}
-	if _, _, e := first(
-		must(in(datum, 0, len(g.Datums)-1), 0, api.ErrNone),
-		must(len(levels) <= api.MaxTdTicks, 0, api.ErrLong),
-		must(areTicks(from, len(levels)), 0, api.ErrRange),
-		each(len(levels), func(i int) api.Errno {
+	if _, _, e := check.First(
+		check.Must(check.In(datum, 0, len(g.Datums)-1), 0, api.ErrNone),
+		check.Must(len(levels) <= api.MaxTdTicks, 0, api.ErrLong),
+		check.Must(areTicks(from, len(levels)), 0, api.ErrRange),
+		check.Each(len(levels), func(i int) api.Errno {
 			if !(span{levels[i]}).inside(api.MinLevel, api.MaxLevel) {
 				return api.ErrArg
 			}
@@ -120,7 +123,7 @@ func Fit(g api.TdGauge, datum, from int, levels []api.Span) (api.Span, api.Errno
 	}
 	shift := span{g.Datums[datum].Shift}
 	for _, r := range g.Readings {
-		told := len(levels) > 0 && in(r.Tick, from, from+len(levels)-1)
+		told := len(levels) > 0 && check.In(r.Tick, from, from+len(levels)-1)
 		if told && datumAt(g, r.Tick) == datum {
 			shift = shift.common(read(g, r).less(span{levels[r.Tick-from]}))
 		}

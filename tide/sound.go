@@ -6,6 +6,7 @@ import (
 	"slices"
 
 	"barrage/api"
+	"barrage/check"
 )
 
 // voice is what one of some gauges says.
@@ -69,19 +70,19 @@ func agreed(l []voice, n int) []span {
 
 // askError returns the error of what Sound and Agree are both asked.
 func askError(l []api.TdGauge, tick, now int) api.Errno {
-	_, _, e := first(
-		must(len(l) <= api.MaxTdGauges, 0, api.ErrLong),
-		each(len(l), func(i int) api.Errno {
+	_, _, e := check.First(
+		check.Must(len(l) <= api.MaxTdGauges, 0, api.ErrLong),
+		check.Each(len(l), func(i int) api.Errno {
 			_, _, e := CheckGauge(l[i])
 			return e
 		}),
-		each(len(l), func(i int) api.Errno {
+		check.Each(len(l), func(i int) api.Errno {
 			if slices.ContainsFunc(l[:i], func(o api.TdGauge) bool { return o.Name == l[i].Name }) {
 				return api.ErrTwice
 			}
 			return api.OK
 		}),
-		must(isTick(tick) && isTick(now), 0, api.ErrRange),
+		check.Must(check.IsTick(tick) && check.IsTick(now), 0, api.ErrRange),
 	)
 	return e
 }
@@ -91,7 +92,7 @@ func Sound(l []api.TdGauge, wrong, tick, now int) (api.Span, api.Errno) {
 	if e := askError(l, tick, now); e != api.OK {
 		return api.Span{}, e
 	}
-	if !in(wrong, 0, len(l)-1) {
+	if !check.In(wrong, 0, len(l)-1) {
 		return api.Span{}, api.ErrRange
 	}
 	found := agreed(voices(l, tick, now), len(l)-wrong)

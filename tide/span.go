@@ -1,6 +1,9 @@
 package tide
 
-import "barrage/api"
+import (
+	"barrage/api"
+	"barrage/round"
+)
 
 // span is a span that may be empty: then its Lo is above its Hi.
 type span struct{ api.Span }
@@ -42,13 +45,4 @@ func (s span) ends() [2]end {
 }
 
 // quotient returns the span from a quotient, rounded down, to it, rounded up; the divisor is above 0.
-func quotient(n, by int) span {
-	down := n / by
-	if n%by < 0 {
-		down--
-	}
-	if n%by == 0 {
-		return between(down, down)
-	}
-	return between(down, down+1)
-}
+func quotient(n, by int) span { return between(round.Down(n, by), round.Up(n, by)) }

@@ -5,6 +5,7 @@ import (
 	"math"
 
 	"barrage/api"
+	"barrage/check"
 )
 
 // minHeights is the least number of heights of a constituent.
@@ -29,10 +30,10 @@ func isDigit(c byte) bool { return '0' <= c && c <= '9' }
 
 // Check returns the index of the first constituent with an error (-1: the table itself), and the error.
 func Check(t api.TdTable) (at int, e api.Errno) {
-	_, at, e = first(
-		must(isLevel(t.Mean), -1, api.ErrRange),
-		must(len(t.Consts) <= api.MaxTdConsts, -1, api.ErrLong),
-		each(len(t.Consts), func(i int) api.Errno { return constError(t.Consts, i) }),
+	_, at, e = check.First(
+		check.Must(check.IsLevel(t.Mean), -1, api.ErrRange),
+		check.Must(len(t.Consts) <= api.MaxTdConsts, -1, api.ErrLong),
+		check.Each(len(t.Consts), func(i int) api.Errno { return constError(t.Consts, i) }),
 	)
 	return at, e
 }
@@ -48,16 +49,16 @@ func constError(l []api.TdConst, i int) api.Errno {
 			return api.ErrTwice
 		}
 	}
-	if !in(len(c.Heights), minHeights, api.MaxTdHeights) {
+	if !check.In(len(c.Heights), minHeights, api.MaxTdHeights) {
 		return api.ErrLong
 	}
 	for _, h := range c.Heights {
-		if !in(h, -api.MaxTdHeight, api.MaxTdHeight) {
+		if !check.In(h, -api.MaxTdHeight, api.MaxTdHeight) {
 			return api.ErrRange
 		}
 	}
 	// Den comes before Offset, whose greatest number is only known with a Den that is right.
-	if !in(c.Den, 1, api.MaxTdDen) || !in(c.Offset, 0, cycle(c)-1) || !in(c.Step, 1, api.MaxTdStep) || !in(c.Slack, 0, api.MaxTdSlack) {
+	if !check.In(c.Den, 1, api.MaxTdDen) || !check.In(c.Offset, 0, cycle(c)-1) || !check.In(c.Step, 1, api.MaxTdStep) || !check.In(c.Slack, 0, api.MaxTdSlack) {
 		return api.ErrRange
 	}
 	return api.OK
@@ -68,7 +69,7 @@ func Level(t api.TdTable, tick int) (api.Span, api.Errno) {
 	if _, e := Check(t); e != api.OK {
 		return api.Span{}, e
 	}
-	if !isTick(tick) {
+	if !check.IsTick(tick) {
 		return api.Span{}, api.ErrRange
 	}
 	return levelsOf(t, tick, 1)[0], api.OK
@@ -79,7 +80,7 @@ func Levels(t api.TdTable, from, n int) ([]api.Span, api.Errno) {
 	if _, e := Check(t); e != api.OK {
 		return nil, e
 	}
-	if !in(n, 0, api.MaxTdTicks) {
+	if !check.In(n, 0, api.MaxTdTicks) {
 		return nil, api.ErrLong
 	}
 	if !areTicks(from, n) {
@@ -87,6 +88,9 @@ func Levels(t api.TdTable, from, n int) ([]api.Span, api.Errno) {
 	}
 	return levelsOf(t, from, n), api.OK
 }
+
+// areTicks reports whether n numbers from one on are ticks; n is not below 0, and the length of a list at most, so that no sum is too great for an int.
+func areTicks(from, n int) bool { return n == 0 || check.IsTick(from) && check.IsTick(from+n-1) }
 
 // levelsOf returns the levels of the tide at n ticks, by a table without an error.
 func levelsOf(t api.TdTable, from, n int) []api.Span {
