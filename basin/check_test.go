@@ -8,6 +8,7 @@ import (
 
 	"barrage/api"
 	"barrage/basin"
+	"barrage/probe"
 )
 
 // P4.1
@@ -15,15 +16,15 @@ func TestCheckNumbers(t *testing.T) {
 	b := bay()
 	look := func() (part, at int, e api.Errno) { return basin.Check(b) }
 	e := api.ErrRange
-	testNumbers(t, 2, 0, look, []number{{"Crest", &b.Crest, -20000, 20000, e}, {"Over", &b.Over, 0, 10000, e}})
+	probe.Ends(t, 2, 0, look, probe.Field("Crest", &b.Crest, -20000, 20000, e), probe.Field("Over", &b.Over, 0, 10000, e))
 	for i := range b.Polders {
 		p := &b.Polders[i]
-		testNumbers(t, 3, i, look, []number{{"Sill", &p.Sill, -1000, 20000, e}, {"Room", &p.Room, 0, 1000000000, e}})
+		probe.Ends(t, 3, i, look, probe.Field("Sill", &p.Sill, -1000, 20000, e), probe.Field("Room", &p.Room, 0, 1000000000, e))
 	}
 	// A basin so wide that Leak and Take can be as great as they may.
 	b.Rows = []api.BsRow{{Level: -20000}, {Level: 20000, Volume: 1000000000}}
-	testNumbers(t, 2, 0, look, []number{{"Leak", &b.Leak, 0, 10000, e}})
-	testNumbers(t, 3, 1, look, []number{{"Sill", &b.Polders[1].Sill, -20000, 20000, e}, {"Take", &b.Polders[1].Take, 0, 10000, e}})
+	probe.Ends(t, 2, 0, look, probe.Field("Leak", &b.Leak, 0, 10000, e))
+	probe.Ends(t, 3, 1, look, probe.Field("Sill", &b.Polders[1].Sill, -20000, 20000, e), probe.Field("Take", &b.Polders[1].Take, 0, 10000, e))
 }
 
 func TestCheckRowNumbers(t *testing.T) {
@@ -240,7 +241,7 @@ func TestTickNumbers(t *testing.T) {
 		return 0, 0, e
 	}
 	e := api.ErrRange
-	testNumbers(t, 0, 0, look, []number{{"Outer", &x.Outer, -20000, 20000, e}, {"River", &x.River, 0, 10000000, e}, {"Out", &x.Out, 0, 10000000, e}})
+	probe.Ends(t, 0, 0, look, probe.Field("Outer", &x.Outer, -20000, 20000, e), probe.Field("River", &x.River, 0, 10000000, e), probe.Field("Out", &x.Out, 0, 10000000, e))
 }
 
 // runCase is a run, or a limit, with an error.
@@ -334,11 +335,11 @@ func TestTotalErrors(t *testing.T) {
 		_, e = basin.Total(bay(), l)
 		return 0, 0, e
 	}
-	testNumbers(t, 0, 0, look, []number{
-		{"River", &f.River, -1000000000, 1000000000, api.ErrRange}, {"Over", &f.Over, -1000000000, 1000000000, api.ErrRange},
-		{"Leak", &f.Leak, -1000000000, 1000000000, api.ErrRange}, {"Out", &f.Out, -1000000000, 1000000000, api.ErrRange},
-		{"Taken", &f.Taken[0], -1000000000, 1000000000, api.ErrRange}, {"Taken", &f.Taken[1], -1000000000, 1000000000, api.ErrRange},
-	})
+	probe.Ends(t, 0, 0, look,
+		probe.Field("River", &f.River, -1000000000, 1000000000, api.ErrRange), probe.Field("Over", &f.Over, -1000000000, 1000000000, api.ErrRange),
+		probe.Field("Leak", &f.Leak, -1000000000, 1000000000, api.ErrRange), probe.Field("Out", &f.Out, -1000000000, 1000000000, api.ErrRange),
+		probe.Field("Taken", &f.Taken[0], -1000000000, 1000000000, api.ErrRange), probe.Field("Taken", &f.Taken[1], -1000000000, 1000000000, api.ErrRange),
+	)
 }
 
 // Level and Volume at the ends of what they take.
@@ -359,6 +360,6 @@ func TestLevelErrors(t *testing.T) {
 		}
 		return 0, 0, e
 	}
-	testNumbers(t, 0, 0, level, []number{{"volume", &v, 7, 1000000000, api.ErrRange}})
-	testNumbers(t, 0, 0, volume, []number{{"level", &x, -1000, 20000, api.ErrRange}})
+	probe.Ends(t, 0, 0, level, probe.Field("volume", &v, 7, 1000000000, api.ErrRange))
+	probe.Ends(t, 0, 0, volume, probe.Field("level", &x, -1000, 20000, api.ErrRange))
 }

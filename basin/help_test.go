@@ -1,7 +1,6 @@
 package basin_test
 
 import (
-	"math"
 	"math/rand/v2"
 	"reflect"
 	"slices"
@@ -146,31 +145,6 @@ func (k basins) ticks(r *rand.Rand, b api.BsBasin, n int) (l []api.BsTick) {
 // limit returns a random level that can be a limit.
 func (k basins) limit(r *rand.Rand, b api.BsBasin) int {
 	return from(r, b.Rows[0].Level, max(b.Rows[0].Level, k.high))
-}
-
-// number is a field of an argument, with its least and its greatest number, and the error beyond them.
-type number struct {
-	name   string
-	at     *int
-	lo, hi int
-	e      api.Errno
-}
-
-// testNumbers sets each number to its ends, and beyond them: look returns what comes of it, which is in one part, at one index.
-func testNumbers(t *testing.T, part, index int, look func() (part, at int, e api.Errno), l []number) {
-	t.Helper()
-	for _, n := range l {
-		old := *n.at
-		for _, x := range []int{n.lo, n.hi, n.lo - 1, n.hi + 1, math.MinInt, math.MinInt / 2, math.MaxInt/2 + 1, math.MaxInt} {
-			*n.at = x
-			p, at, e := look()
-			isRight := n.lo <= x && x <= n.hi
-			if isRight && (p != 0 || at != 0 || e != api.OK) || !isRight && (p != part || at != index || e != n.e) {
-				t.Errorf("%s = %d: %d, %d, %d", n.name, x, p, at, e)
-			}
-		}
-		*n.at = old
-	}
 }
 
 // isStep checks that Step does so, without an error.

@@ -7,6 +7,7 @@ import (
 
 	"barrage/api"
 	"barrage/basin"
+	"barrage/probe"
 )
 
 // down returns the greatest integer that is not above a fraction.
@@ -38,27 +39,8 @@ func times(rate int, high, low *big.Rat) int {
 	return down(x.Mul(x, whole(rate)))
 }
 
-// ways counts what happened in ticks.
-type ways map[string]int
-
-// note counts something that happened.
-func (w ways) note(name string, happened bool) {
-	if happened {
-		w[name]++
-	}
-}
-
-func (w ways) testAll(t *testing.T, least int, names ...string) {
-	t.Helper()
-	for _, name := range names {
-		if w[name] < least {
-			t.Errorf("%s: %d times", name, w[name])
-		}
-	}
-}
-
 // tick returns what a tick does by the definition; the numbers are without an error.
-func (w ways) tick(b api.BsBasin, s api.BsState, x api.BsTick) (api.BsState, api.BsFlows, api.Errno) {
+func tick(w probe.Counts, b api.BsBasin, s api.BsState, x api.BsTick) (api.BsState, api.BsFlows, api.Errno) {
 	var f api.BsFlows
 	v, first := s.Volume, b.Rows[0].Volume
 	f.River = x.River
@@ -66,30 +48,30 @@ func (w ways) tick(b api.BsBasin, s api.BsState, x api.BsTick) (api.BsState, api
 	isTooMuch := v > api.MaxVolume
 	if over := b.Over * (x.Outer - b.Crest); over > 0 {
 		f.Over = over
-		w.note("over", true)
+		w.Note("over", true)
 	}
 	v += f.Over
 	isTooMuch = isTooMuch || v > api.MaxVolume
 	if isTooMuch {
-		w.note("too much before it leaks", true)
+		w.Note("too much before it leaks", true)
 		return api.BsState{}, api.BsFlows{}, api.ErrLong
 	}
 	f.Leak = times(b.Leak, whole(x.Outer), exact(b, v))
 	if f.Leak < 0 && v+f.Leak < first {
 		f.Leak = first - v
-		w.note("leaks until it is empty", true)
+		w.Note("leaks until it is empty", true)
 	}
 	v += f.Leak
-	w.note("leaks in", f.Leak > 0)
-	w.note("leaks out", f.Leak < 0)
+	w.Note("leaks in", f.Leak > 0)
+	w.Note("leaks out", f.Leak < 0)
 	if v > api.MaxVolume {
-		w.note("too much by leaks", true)
+		w.Note("too much by leaks", true)
 		return api.BsState{}, api.BsFlows{}, api.ErrLong
 	}
 	f.Out = x.Out
 	if f.Out > v-first {
 		f.Out = v - first
-		w.note("runs off until it is empty", true)
+		w.Note("runs off until it is empty", true)
 	}
 	v -= f.Out
 	s = copyState(s)
@@ -99,9 +81,9 @@ func (w ways) tick(b api.BsBasin, s api.BsState, x api.BsTick) (api.BsState, api
 			n = times(p.Take, l, whole(p.Sill))
 			if room := p.Room - s.Filled[i]; room < n {
 				n = room
-				w.note("full", true)
+				w.Note("full", true)
 			}
-			w.note("takes", n > 0)
+			w.Note("takes", n > 0)
 		}
 		f.Taken = append(f.Taken, n)
 		s.Filled[i] += n
@@ -115,11 +97,11 @@ func (w ways) tick(b api.BsBasin, s api.BsState, x api.BsTick) (api.BsState, api
 func TestStepIsExact(t *testing.T) {
 	r := random()
 	for _, k := range []basins{small(), large()} {
-		w := ways{}
+		w := probe.Counts{}
 		for range 20000 {
 			b := k.one(r)
 			s, x := someState(r, b), k.ticks(r, b, 1)[0]
-			want, flows, e := w.tick(b, s, x)
+			want, flows, e := tick(w, b, s, x)
 			if e == api.OK {
 				isStep(t, b, s, x, want, flows)
 			} else if y, f, got := basin.Step(b, s, x); got != e || !sameState(y, want) || !sameFlows(f, flows) {
@@ -129,7 +111,7 @@ func TestStepIsExact(t *testing.T) {
 				t.Fatalf("%v", b)
 			}
 		}
-		w.testAll(t, 100, "over", "too much before it leaks", "leaks in", "leaks out", "leaks until it is empty", "runs off until it is empty", "takes", "full")
+		w.Least(t, 100, "over", "too much before it leaks", "leaks in", "leaks out", "leaks until it is empty", "runs off until it is empty", "takes", "full")
 	}
 }
 

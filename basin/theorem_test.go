@@ -9,6 +9,7 @@ import (
 
 	"barrage/api"
 	"barrage/basin"
+	"barrage/probe"
 )
 
 // wetter returns a state and ticks with no less water in anything, and mostly with more; the first polder is as it was.
@@ -79,7 +80,7 @@ func polderNumbers(b api.BsBasin) (l []int) {
 // P4.9: Need is not less with more water, Spare not greater; ErrDown is more than any Need, and less than any Spare.
 func TestMonotoneNeed(t *testing.T) {
 	r := random()
-	counts := ways{}
+	counts := probe.Counts{}
 	for i := range 4000 {
 		b, s, l, limit := someRun(r, []basins{small(), large()}[i%2])
 		wetS, wetL := wetter(r, b, s, l)
@@ -96,12 +97,12 @@ func TestMonotoneNeed(t *testing.T) {
 		if e1 > e2 || e3 > e4 || e2 == api.OK && wetNeed < need || e4 == api.OK && wetSpare > spare {
 			t.Fatalf("%v: Need = %d, %d, and with more water %d, %d; Spare = %d, %d, and %d, %d", b, need, e1, wetNeed, e2, spare, e3, wetSpare, e4)
 		}
-		counts.note("needs more", e2 == api.OK && wetNeed > need)
-		counts.note("can no more", e1 < e2)
-		counts.note("spares less", e4 == api.OK && wetSpare < spare)
-		counts.note("spares no more", e3 < e4)
+		counts.Note("needs more", e2 == api.OK && wetNeed > need)
+		counts.Note("can no more", e1 < e2)
+		counts.Note("spares less", e4 == api.OK && wetSpare < spare)
+		counts.Note("spares no more", e3 < e4)
 	}
-	counts.testAll(t, 20, "needs more", "can no more", "spares less", "spares no more")
+	counts.Least(t, 20, "needs more", "can no more", "spares less", "spares no more")
 }
 
 // stays reports whether Run has no error, and the level is within the limit in each tick.
@@ -131,7 +132,7 @@ func swollen(l []api.BsTick, more int) []api.BsTick {
 // P4.6, P4.12: Need and Spare.
 func TestLeastAndGreatest(t *testing.T) {
 	r := random()
-	counts := ways{}
+	counts := probe.Counts{}
 	for i := range 6000 {
 		b, s, l, limit := someRun(r, []basins{small(), large()}[i%2])
 		_, _, e := basin.Run(b, s, l)
@@ -155,13 +156,13 @@ func TestLeastAndGreatest(t *testing.T) {
 			e2 != api.OK && e2 != api.ErrDown, spare < 0, spare > api.MaxFlow:
 			t.Fatalf("%v: Spare from %v by %v within %d = %d, %d", b, s, l, limit, spare, e2)
 		}
-		counts.note("needs", e1 == api.OK && need > 0)
-		counts.note("needs nothing", e1 == api.OK && need == 0)
-		counts.note("cannot", e1 == api.ErrDown)
-		counts.note("spares", e2 == api.OK && spare > 0)
-		counts.note("spares nothing", e2 == api.ErrDown)
+		counts.Note("needs", e1 == api.OK && need > 0)
+		counts.Note("needs nothing", e1 == api.OK && need == 0)
+		counts.Note("cannot", e1 == api.ErrDown)
+		counts.Note("spares", e2 == api.OK && spare > 0)
+		counts.Note("spares nothing", e2 == api.ErrDown)
 	}
-	counts.testAll(t, 100, "needs", "needs nothing", "cannot", "spares", "spares nothing")
+	counts.Least(t, 100, "needs", "needs nothing", "cannot", "spares", "spares nothing")
 }
 
 // P4.6: there is no lesser Need, and no greater Spare, either, of all that there are.

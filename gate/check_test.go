@@ -8,6 +8,7 @@ import (
 
 	"barrage/api"
 	"barrage/gate"
+	"barrage/probe"
 )
 
 // P3.1
@@ -15,23 +16,23 @@ func TestCheckNumbers(t *testing.T) {
 	g := east()
 	look := func() (part, at int, e api.Errno) { return gate.Check(g) }
 	e := api.ErrRange
-	testNumbers(t, 3, 0, look, []number{
-		{"Open", &g.Open, -20000, 20000, e}, {"Shut", &g.Shut, -20000, 20000, e}, {"Height", &g.Height, 1, 30000, e},
-		{"Float", &g.Float, 0, 10000, e}, {"Slide", &g.Slide, 0, 10000, e}, {"Push", &g.Push, -10000, 10000, e},
-		{"Seal", &g.Seal, 0, 200000, e}, {"Drive", &g.Drive, 0, 200000, e}, {"Brake", &g.Brake, 0, 200000, e},
-		{"Speed", &g.Speed, 1, 100, e}, {"Gravity", &g.Gravity, 1, 100, e},
-		{"Use", &g.Use, 0, 100000, e}, {"Pump", &g.Pump, 0, 100000, e}, {"Capacity", &g.Capacity, 0, 100000, e},
-		{"Slack", &g.Slack, 0, 499, e},
-	})
-	testNumbers(t, 4, 1, look, []number{{"Tol", &g.Sensors[1].Tol, 0, 5000, e}, {"At of an encoder", &g.Sensors[1].At, 0, 0, api.ErrArg}})
-	testNumbers(t, 4, 2, look, []number{{"Tol", &g.Sensors[2].Tol, 0, 5000, e}, {"At of a switch", &g.Sensors[2].At, 0, 5000, e}})
-	testNumbers(t, 4, 0, look, []number{{"Wrong", &g.Wrong, 0, 3, e}})
+	probe.Ends(t, 3, 0, look,
+		probe.Field("Open", &g.Open, -20000, 20000, e), probe.Field("Shut", &g.Shut, -20000, 20000, e), probe.Field("Height", &g.Height, 1, 30000, e),
+		probe.Field("Float", &g.Float, 0, 10000, e), probe.Field("Slide", &g.Slide, 0, 10000, e), probe.Field("Push", &g.Push, -10000, 10000, e),
+		probe.Field("Seal", &g.Seal, 0, 200000, e), probe.Field("Drive", &g.Drive, 0, 200000, e), probe.Field("Brake", &g.Brake, 0, 200000, e),
+		probe.Field("Speed", &g.Speed, 1, 100, e), probe.Field("Gravity", &g.Gravity, 1, 100, e),
+		probe.Field("Use", &g.Use, 0, 100000, e), probe.Field("Pump", &g.Pump, 0, 100000, e), probe.Field("Capacity", &g.Capacity, 0, 100000, e),
+		probe.Field("Slack", &g.Slack, 0, 499, e),
+	)
+	probe.Ends(t, 4, 1, look, probe.Field("Tol", &g.Sensors[1].Tol, 0, 5000, e), probe.Field("At of an encoder", &g.Sensors[1].At, 0, 0, api.ErrArg))
+	probe.Ends(t, 4, 2, look, probe.Field("Tol", &g.Sensors[2].Tol, 0, 5000, e), probe.Field("At of a switch", &g.Sensors[2].At, 0, 5000, e))
+	probe.Ends(t, 4, 0, look, probe.Field("Wrong", &g.Wrong, 0, 3, e))
 	g.Slack = 0
-	testNumbers(t, 1, 0, look, []number{{"Travel", &g.Travel, 1, 5000, e}})
+	probe.Ends(t, 1, 0, look, probe.Field("Travel", &g.Travel, 1, 5000, e))
 	// Twice Slack is below Travel.
 	for travel, most := range map[int]int{1: 0, 2: 0, 3: 1, 4: 1, 5: 2, 5000: 2499} {
 		g.Travel = travel
-		testNumbers(t, 3, 0, look, []number{{"Slack", &g.Slack, 0, most, e}})
+		probe.Ends(t, 3, 0, look, probe.Field("Slack", &g.Slack, 0, most, e))
 	}
 }
 
@@ -226,9 +227,9 @@ func TestCheckSetNumbers(t *testing.T) {
 	l := pair()
 	l.Rules = append(l.Rules, api.GtRule{Gate: 0, Other: 1, Lo: 40, Hi: 60})
 	r := &l.Rules[1]
-	testNumbers(t, 2, 1, func() (part, at int, e api.Errno) { return gate.CheckSet(l) }, []number{
-		{"Lo", &r.Lo, 0, 60, api.ErrRange}, {"Hi", &r.Hi, 40, 5000, api.ErrRange},
-	})
+	probe.Ends(t, 2, 1, func() (part, at int, e api.Errno) { return gate.CheckSet(l) },
+		probe.Field("Lo", &r.Lo, 0, 60, api.ErrRange), probe.Field("Hi", &r.Hi, 40, 5000, api.ErrRange),
+	)
 	*r = api.GtRule{Gate: 0, Other: 1, Lo: 5000, Hi: 5000}
 	if part, at, e := gate.CheckSet(l); part != 0 || at != 0 || e != api.OK {
 		t.Errorf("CheckSet = %d, %d, %d", part, at, e)

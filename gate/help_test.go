@@ -1,7 +1,6 @@
 package gate_test
 
 import (
-	"math"
 	"math/rand/v2"
 	"slices"
 	"testing"
@@ -104,31 +103,6 @@ func someSet(r *rand.Rand, rules int) api.GtSet {
 		l.Rules = append(l.Rules, api.GtRule{Gate: n, Other: other, Lo: lo, Hi: from(r, lo, 60)})
 	}
 	return l
-}
-
-// number is a field of an argument, with its least and its greatest number, and the error beyond them.
-type number struct {
-	name   string
-	at     *int
-	lo, hi int
-	e      api.Errno
-}
-
-// testNumbers sets each number to its ends, and beyond them: look returns what comes of it, which is in one part, at one index.
-func testNumbers(t *testing.T, part, index int, look func() (part, at int, e api.Errno), l []number) {
-	t.Helper()
-	for _, n := range l {
-		old := *n.at
-		for _, x := range []int{n.lo, n.hi, n.lo - 1, n.hi + 1, math.MinInt, math.MinInt / 2, math.MaxInt/2 + 1, math.MaxInt} {
-			*n.at = x
-			p, at, e := look()
-			isRight := n.lo <= x && x <= n.hi
-			if isRight && (p != 0 || at != 0 || e != api.OK) || !isRight && (p != part || at != index || e != n.e) {
-				t.Errorf("%s = %d: %d, %d, %d", n.name, x, p, at, e)
-			}
-		}
-		*n.at = old
-	}
 }
 
 func copyGate(g api.GtGate) api.GtGate {

@@ -6,6 +6,7 @@ import (
 	"testing"
 
 	"barrage/api"
+	"barrage/probe"
 	"barrage/surge"
 )
 
@@ -13,31 +14,32 @@ import (
 func TestCheckNumbers(t *testing.T) {
 	task := storm()
 	task.Gauges = []api.TdGauge{gauge("a", 0, 1, 2), gauge("b", 0, 1, 2), gauge("c", 0, 1, 2)}
+	look := func() (part, at int, e api.Errno) { return surge.Check(task) }
 	e := api.ErrRange
-	testNumbers(t, &task, 1, 0, []number{
-		{"From", &task.From, 0, api.MaxTick - 2, e},
-		{"Ticks", &task.Ticks, 1, api.MaxSgTicks, e},
-		{"Mean", &task.Table.Mean, api.MinLevel, api.MaxLevel, e},
-	})
-	testNumbers(t, &task, 2, 0, []number{{"Wrong", &task.Wrong, 0, 2, e}, {"Error of a gauge", &task.Gauges[0].Error, 0, api.MaxTdError, e}})
-	testNumbers(t, &task, 2, 2, []number{{"Rate of a gauge", &task.Gauges[2].Rate, 0, api.MaxTdRate, e}})
-	testNumbers(t, &task, 3, 0, []number{
-		{"Least", &task.Least, -api.MaxSgSurge, 0, e},
-		{"Most", &task.Most, 0, api.MaxSgSurge, e},
-		{"Rate", &task.Rate, 1, api.MaxTdRate, e},
-		{"Quorum", &task.Quorum, 0, 2, e},
-	})
-	testNumbers(t, &task, 4, 1, []number{
-		{"Late", &task.Centres[1].Late, 0, api.MaxSgLate, e},
-		{"Base", &task.Centres[1].Base, 0, api.MaxSgError, e},
-		{"Growth", &task.Centres[1].Growth, 0, api.MaxSgGrowth, e},
-	})
-	testNumbers(t, &task, 5, 2, []number{
-		{"Centre", &task.Forecasts[2].Centre, 0, 1, api.ErrNone},
-		{"Issued", &task.Forecasts[2].Issued, 0, api.MaxTick, e},
-		{"From of a forecast", &task.Forecasts[2].From, 0, api.MaxTick, e},
-		{"a value", &task.Forecasts[2].Members[0][2], -api.MaxSgSurge, api.MaxSgSurge, e},
-	})
+	probe.Ends(t, 1, 0, look,
+		probe.Field("From", &task.From, 0, api.MaxTick-2, e),
+		probe.Field("Ticks", &task.Ticks, 1, api.MaxSgTicks, e),
+		probe.Field("Mean", &task.Table.Mean, api.MinLevel, api.MaxLevel, e),
+	)
+	probe.Ends(t, 2, 0, look, probe.Field("Wrong", &task.Wrong, 0, 2, e), probe.Field("Error of a gauge", &task.Gauges[0].Error, 0, api.MaxTdError, e))
+	probe.Ends(t, 2, 2, look, probe.Field("Rate of a gauge", &task.Gauges[2].Rate, 0, api.MaxTdRate, e))
+	probe.Ends(t, 3, 0, look,
+		probe.Field("Least", &task.Least, -api.MaxSgSurge, 0, e),
+		probe.Field("Most", &task.Most, 0, api.MaxSgSurge, e),
+		probe.Field("Rate", &task.Rate, 1, api.MaxTdRate, e),
+		probe.Field("Quorum", &task.Quorum, 0, 2, e),
+	)
+	probe.Ends(t, 4, 1, look,
+		probe.Field("Late", &task.Centres[1].Late, 0, api.MaxSgLate, e),
+		probe.Field("Base", &task.Centres[1].Base, 0, api.MaxSgError, e),
+		probe.Field("Growth", &task.Centres[1].Growth, 0, api.MaxSgGrowth, e),
+	)
+	probe.Ends(t, 5, 2, look,
+		probe.Field("Centre", &task.Forecasts[2].Centre, 0, 1, api.ErrNone),
+		probe.Field("Issued", &task.Forecasts[2].Issued, 0, api.MaxTick, e),
+		probe.Field("From of a forecast", &task.Forecasts[2].From, 0, api.MaxTick, e),
+		probe.Field("a value", &task.Forecasts[2].Members[0][2], -api.MaxSgSurge, api.MaxSgSurge, e),
+	)
 }
 
 // manyCentres and others return so many of each, without an error.

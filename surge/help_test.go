@@ -1,7 +1,6 @@
 package surge_test
 
 import (
-	"math"
 	"math/rand/v2"
 	"slices"
 	"testing"
@@ -45,30 +44,6 @@ func watched(lo, hi int) api.SgTask {
 // gauge returns a gauge that reads at a tick, and says just one span of all ticks.
 func gauge(name string, tick, lo, hi int) api.TdGauge {
 	return api.TdGauge{Name: name, Datums: []api.TdDatum{{Shift: sp(0, hi-lo)}}, Readings: []api.TdReading{{Tick: tick, Value: hi}}}
-}
-
-// number is a field of a task, with its least and its greatest number.
-type number struct {
-	name   string
-	at     *int
-	lo, hi int
-	e      api.Errno
-}
-
-// testNumbers sets each number to its ends, and beyond them.
-func testNumbers(t *testing.T, task *api.SgTask, part, index int, l []number) {
-	t.Helper()
-	for _, n := range l {
-		old := *n.at
-		for x, want := range map[int]api.Errno{n.lo: api.OK, n.hi: api.OK, n.lo - 1: n.e, n.hi + 1: n.e, math.MinInt: n.e, math.MaxInt: n.e} {
-			*n.at = x
-			p, at, e := surge.Check(*task)
-			if e != want || want == api.OK && (p != 0 || at != 0) || want != api.OK && (p != part || at != index) {
-				t.Errorf("%s = %d: Check = %d, %d, %d", n.name, x, p, at, e)
-			}
-		}
-		*n.at = old
-	}
 }
 
 // testFirst checks that the error of a task comes before all others, with zero values.

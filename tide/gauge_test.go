@@ -6,26 +6,28 @@ import (
 	"testing"
 
 	"barrage/api"
+	"barrage/probe"
 	"barrage/tide"
 )
 
 // P1.4
 func TestCheckGaugeNumbers(t *testing.T) {
 	g := pier()
-	testNumbers(t, []number{
-		{"Error", &g.Error, 0, api.MaxTdError},
-		{"Rate", &g.Rate, 0, api.MaxTdRate},
-		{"From of the first datum", &g.Datums[0].From, 0, 0},
-		{"From of the second datum", &g.Datums[1].From, 1, api.MaxTick},
-		{"Lo of Shift", &g.Datums[1].Shift.Lo, -api.MaxTdError, 40},
-		{"Hi of Shift", &g.Datums[1].Shift.Hi, 30, api.MaxTdError},
-		{"Tick of the first reading", &g.Readings[0].Tick, 0, 109},
-		{"Tick of the second reading", &g.Readings[1].Tick, 91, api.MaxTick},
-		{"Value", &g.Readings[1].Value, -30000, 30000},
-	}, func() api.Errno {
-		_, _, e := tide.CheckGauge(g)
-		return e
-	})
+	look := func() (part, at int, e api.Errno) {
+		_, _, e = tide.CheckGauge(g)
+		return 0, 0, e
+	}
+	probe.Ends(t, 0, 0, look,
+		probe.Field("Error", &g.Error, 0, api.MaxTdError, api.ErrRange),
+		probe.Field("Rate", &g.Rate, 0, api.MaxTdRate, api.ErrRange),
+		probe.Field("From of the first datum", &g.Datums[0].From, 0, 0, api.ErrRange),
+		probe.Field("From of the second datum", &g.Datums[1].From, 1, api.MaxTick, api.ErrRange),
+		probe.Field("Lo of Shift", &g.Datums[1].Shift.Lo, -api.MaxTdError, 40, api.ErrRange),
+		probe.Field("Hi of Shift", &g.Datums[1].Shift.Hi, 30, api.MaxTdError, api.ErrRange),
+		probe.Field("Tick of the first reading", &g.Readings[0].Tick, 0, 109, api.ErrRange),
+		probe.Field("Tick of the second reading", &g.Readings[1].Tick, 91, api.MaxTick, api.ErrRange),
+		probe.Field("Value", &g.Readings[1].Value, -30000, 30000, api.ErrRange),
+	)
 }
 
 func TestCheckGauge(t *testing.T) {

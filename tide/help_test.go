@@ -96,28 +96,6 @@ func someTruth(r *rand.Rand, n, rate int) []int {
 	return l
 }
 
-// number is a field of an argument, with its least and its greatest number.
-type number struct {
-	name   string
-	at     *int
-	lo, hi int
-}
-
-// testNumbers sets each number to its ends, and beyond them: error returns what comes of it.
-func testNumbers(t *testing.T, l []number, e func() api.Errno) {
-	t.Helper()
-	for _, n := range l {
-		old := *n.at
-		for x, want := range map[int]api.Errno{n.lo: api.OK, n.hi: api.OK, n.lo - 1: api.ErrRange, n.hi + 1: api.ErrRange, math.MinInt: api.ErrRange, math.MaxInt: api.ErrRange} {
-			*n.at = x
-			if got := e(); got != want {
-				t.Errorf("%s = %d: error %d, want %d", n.name, x, got, want)
-			}
-		}
-		*n.at = old
-	}
-}
-
 func copyTable(t api.TdTable) api.TdTable {
 	t.Consts = slices.Clone(t.Consts)
 	for i := range t.Consts {

@@ -7,6 +7,7 @@ import (
 	"testing"
 
 	"barrage/api"
+	"barrage/probe"
 	"barrage/tide"
 )
 
@@ -28,18 +29,19 @@ func TestCheckNumbers(t *testing.T) {
 	y := moon()
 	c := &y.Consts[0]
 	c.Step, c.Den, c.Offset = 1, 3, 0
-	testNumbers(t, []number{
-		{"Mean", &y.Mean, api.MinLevel, api.MaxLevel},
-		{"Heights", &c.Heights[0], -api.MaxTdHeight, api.MaxTdHeight},
-		{"Heights, the last one", &c.Heights[3], -api.MaxTdHeight, api.MaxTdHeight},
-		{"Offset", &c.Offset, 0, 11},
-		{"Step", &c.Step, 1, api.MaxTdStep},
-		{"Den", &c.Den, 1, api.MaxTdDen},
-		{"Slack", &c.Slack, 0, api.MaxTdSlack},
-	}, func() api.Errno {
-		_, e := tide.Check(y)
-		return e
-	})
+	look := func() (part, at int, e api.Errno) {
+		_, e = tide.Check(y)
+		return 0, 0, e
+	}
+	probe.Ends(t, 0, 0, look,
+		probe.Field("Mean", &y.Mean, api.MinLevel, api.MaxLevel, api.ErrRange),
+		probe.Field("Heights", &c.Heights[0], -api.MaxTdHeight, api.MaxTdHeight, api.ErrRange),
+		probe.Field("Heights, the last one", &c.Heights[3], -api.MaxTdHeight, api.MaxTdHeight, api.ErrRange),
+		probe.Field("Offset", &c.Offset, 0, 11, api.ErrRange),
+		probe.Field("Step", &c.Step, 1, api.MaxTdStep, api.ErrRange),
+		probe.Field("Den", &c.Den, 1, api.MaxTdDen, api.ErrRange),
+		probe.Field("Slack", &c.Slack, 0, api.MaxTdSlack, api.ErrRange),
+	)
 }
 
 func TestCheck(t *testing.T) {
