@@ -5,7 +5,7 @@ import (
 
 	"barrage/api"
 	"barrage/check"
-	"barrage/tide"
+	"barrage/named"
 )
 
 // minRows is the least number of rows of a basin.
@@ -40,20 +40,14 @@ func checkRows(l []api.BsRow) (at int, e api.Errno) {
 func checkPolders(b api.BsBasin) (at int, e api.Errno) {
 	_, at, e = check.First(
 		check.Must(len(b.Polders) <= api.MaxBsPolders, 0, api.ErrLong),
-		check.Each(len(b.Polders), func(i int) api.Errno { return polderError(b, i) }),
+		named.Each(b.Polders, func(p api.BsPolder) string { return p.Name }, func(p api.BsPolder) api.Errno { return polderError(b, p) }),
 	)
 	return at, e
 }
 
-// polderError returns the error of a polder of a basin whose rows have none.
-func polderError(b api.BsBasin, i int) api.Errno {
-	p := b.Polders[i]
-	switch {
-	case !tide.Name(p.Name):
-		return api.ErrForm
-	case slices.ContainsFunc(b.Polders[:i], func(o api.BsPolder) bool { return o.Name == p.Name }):
-		return api.ErrTwice
-	case !reaches(b, p.Sill), !isRate(p.Take), !isVolume(p.Room):
+// polderError returns the error of a polder, beside its name, of a basin whose rows have none.
+func polderError(b api.BsBasin, p api.BsPolder) api.Errno {
+	if !reaches(b, p.Sill) || !isRate(p.Take) || !isVolume(p.Room) {
 		return api.ErrRange
 	}
 	return api.OK
@@ -66,8 +60,8 @@ func wideError(b api.BsBasin) api.Errno {
 		most = max(most, p.Take)
 	}
 	for i := 1; i < len(b.Rows); i++ {
-		p := piece{b.Rows[i-1], b.Rows[i]}
-		if most*p.high() > p.wide() {
+		below, above := b.Rows[i-1], b.Rows[i]
+		if most*(above.Level-below.Level) > above.Volume-below.Volume {
 			return api.ErrArg
 		}
 	}

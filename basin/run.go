@@ -6,6 +6,7 @@ import (
 	"strconv"
 
 	"barrage/api"
+	"barrage/height"
 )
 
 // fault is an error of api, as an error of the language.
@@ -69,7 +70,7 @@ func run(b api.BsBasin, s api.BsState, l []api.BsTick) ([]outcome, api.Errno) {
 
 // exceeds reports whether the level after a tick is above a limit.
 func (o outcome) exceeds(b api.BsBasin, limit int) bool {
-	return levelOf(b, o.state.Volume).above(mark(limit))
+	return height.Of(b.Rows, o.state.Volume).Above(height.Mark(limit))
 }
 
 // keeps reports whether the level stays within a limit in each of some ticks, which are done without an error.

@@ -4,6 +4,7 @@ import (
 	"slices"
 
 	"barrage/api"
+	"barrage/height"
 )
 
 // outcome is the state after a tick, and what flowed in it.
@@ -41,7 +42,7 @@ func (c *course) events() [5]func() error {
 }
 
 // level returns the exact level at this place.
-func (c *course) level() level { return levelOf(c.basin, c.state.Volume) }
+func (c *course) level() height.Level { return height.Of(c.basin.Rows, c.state.Volume) }
 
 // free returns how much more is in the basin than there has to be.
 func (c *course) free() int { return c.state.Volume - c.basin.Rows[0].Volume }
@@ -61,12 +62,12 @@ func (c *course) riverComes() error {
 }
 
 func (c *course) runsOver() error {
-	c.flows.Over = max(flow(c.basin.Over, mark(c.tick.Outer), mark(c.basin.Crest)), 0)
+	c.flows.Over = max(height.Flow(c.basin.Over, height.Mark(c.tick.Outer), height.Mark(c.basin.Crest)), 0)
 	return c.grow(c.flows.Over)
 }
 
 func (c *course) leaks() error {
-	c.flows.Leak = max(flow(c.basin.Leak, mark(c.tick.Outer), c.level()), -c.free())
+	c.flows.Leak = max(height.Flow(c.basin.Leak, height.Mark(c.tick.Outer), c.level()), -c.free())
 	return c.grow(c.flows.Leak)
 }
 
@@ -78,11 +79,11 @@ func (c *course) runsOff() error {
 // floods lets water run into the polders, in order: each one sees the level that those before it leave.
 func (c *course) floods() error {
 	for i, p := range c.basin.Polders {
-		l := c.level()
-		if !l.above(mark(p.Sill)) {
+		l, sill := c.level(), height.Mark(p.Sill)
+		if !l.Above(sill) {
 			continue
 		}
-		taken := min(flow(p.Take, l, mark(p.Sill)), p.Room-c.state.Filled[i])
+		taken := min(height.Flow(p.Take, l, sill), p.Room-c.state.Filled[i])
 		c.flows.Taken[i] = taken
 		c.state.Filled[i] += taken
 		c.state.Volume -= taken

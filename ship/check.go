@@ -5,7 +5,7 @@ import (
 
 	"barrage/api"
 	"barrage/check"
-	"barrage/tide"
+	"barrage/named"
 )
 
 // none stands for no opening, no anchorage, no start, no promise, and no ship.
@@ -15,25 +15,11 @@ const none = -1
 func Check(p api.ShPort) (part, at int, e api.Errno) {
 	return check.First(
 		check.Must(check.In(len(p.Openings), 1, api.MaxShOpenings) && len(p.Anchors) <= api.MaxShAnchors && len(p.Ships) <= api.MaxShShips, 0, api.ErrLong),
-		eachNamed(p.Openings, func(o api.ShOpening) string { return o.Name }, openingError),
-		eachNamed(p.Anchors, func(a api.ShAnchor) string { return a.Name }, anchorError),
-		eachNamed(p.Ships, func(s api.ShShip) string { return s.Name }, shipError),
+		named.Each(p.Openings, func(o api.ShOpening) string { return o.Name }, openingError),
+		named.Each(p.Anchors, func(a api.ShAnchor) string { return a.Name }, anchorError),
+		named.Each(p.Ships, func(s api.ShShip) string { return s.Name }, shipError),
 		func() (int, api.Errno) { return 0, restError(p) },
 	)
-}
-
-// eachNamed looks at elements with names: at the name of each, and then at the rest of it.
-func eachNamed[T any](l []T, name func(T) string, restError func(T) api.Errno) check.Look {
-	return check.Each(len(l), func(i int) api.Errno {
-		own := name(l[i])
-		switch {
-		case !tide.Name(own):
-			return api.ErrForm
-		case slices.ContainsFunc(l[:i], func(o T) bool { return name(o) == own }):
-			return api.ErrTwice
-		}
-		return restError(l[i])
-	})
 }
 
 // openingError returns the error of an opening, beside its name.

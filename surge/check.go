@@ -5,6 +5,7 @@ import (
 
 	"barrage/api"
 	"barrage/check"
+	"barrage/named"
 	"barrage/tide"
 )
 
@@ -56,21 +57,11 @@ func checkNumbers(t api.SgTask) (at int, e api.Errno) {
 }
 
 func checkCentres(t api.SgTask) (at int, e api.Errno) {
-	for i, c := range t.Centres {
-		if e := centreError(c, t.Centres[:i]); e != api.OK {
-			return i, e
-		}
-	}
-	return 0, api.OK
+	return named.Each(t.Centres, func(c api.SgCentre) string { return c.Name }, centreError)()
 }
 
-func centreError(c api.SgCentre, before []api.SgCentre) api.Errno {
-	if !tide.Name(c.Name) {
-		return api.ErrForm
-	}
-	if slices.ContainsFunc(before, func(o api.SgCentre) bool { return o.Name == c.Name }) {
-		return api.ErrTwice
-	}
+// centreError returns the error of a centre, beside its name.
+func centreError(c api.SgCentre) api.Errno {
 	if !check.In(c.Late, 0, api.MaxSgLate) || !check.In(c.Base, 0, api.MaxSgError) || !check.In(c.Growth, 0, api.MaxSgGrowth) {
 		return api.ErrRange
 	}
